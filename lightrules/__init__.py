@@ -1,0 +1,1 @@
+"""Light rules: crossings read from their lights, and decided for all comings."""

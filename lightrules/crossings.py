@@ -1,0 +1,77 @@
+"""What is a crossing, a rule, or comings; the family of rules; the checks of arguments."""
+
+from lightrules.errors import InvalidComings, InvalidCrossing, InvalidRule
+
+_MOST_COMINGS = 40
+
+_NUMBERS_BEHIND = {"asked": 1, "clock": 2, "due": 1, "empty": 1, "gap": 2, "longer": 1}
+
+_FAMILY = (
+    ("asked", 1), ("asked", 2), ("asked", 3),
+    ("clock", 1, 1), ("clock", 1, 2), ("clock", 1, 3),
+    ("clock", 2, 1), ("clock", 2, 2), ("clock", 2, 3),
+    ("clock", 3, 1), ("clock", 3, 2), ("clock", 3, 3),
+    ("due", 1), ("due", 2), ("due", 3),
+    ("empty", 2), ("empty", 3), ("empty", 4),
+    ("gap", 1, 3), ("gap", 1, 4), ("gap", 2, 3), ("gap", 2, 4),
+    ("longer", 1), ("longer", 2), ("longer", 3),
+)
+
+
+def is_number(candidate, least, most):
+    """Return whether candidate is an integer from least to most."""
+    # Python counts True and False among the integers, the document does not.
+    if not isinstance(candidate, int) or isinstance(candidate, bool):
+        return False
+    return least <= candidate <= most
+
+
+def is_crossing(candidate):
+    """Return whether candidate is a crossing: a tuple (room, pause)."""
+    if not isinstance(candidate, tuple) or len(candidate) != 2:
+        return False
+    room, pause = candidate
+    return is_number(room, 1, 3) and is_number(pause, 0, 2)
+
+
+def is_rule(candidate):
+    """Return whether candidate is a rule: a tuple of a word and its numbers."""
+    if not isinstance(candidate, tuple) or len(candidate) == 0:
+        return False
+    word, *numbers = candidate
+    # A list cannot be looked up in the table, so the word must be a string first.
+    if not isinstance(word, str) or word not in _NUMBERS_BEHIND:
+        return False
+    if len(numbers) != _NUMBERS_BEHIND[word]:
+        return False
+    return all([is_number(number, 1, 4) for number in numbers])
+
+
+def are_comings(candidate):
+    """Return whether candidate is a list of at most 40 comings."""
+    if not isinstance(candidate, list) or len(candidate) > _MOST_COMINGS:
+        return False
+    return all([is_number(coming, 0, 3) for coming in candidate])
+
+
+def family():
+    """Return the ascending list of the rules of the family."""
+    return list(_FAMILY)
+
+
+def check_crossing(crossing):
+    """Raise InvalidCrossing if crossing is not a crossing."""
+    if not is_crossing(crossing):
+        raise InvalidCrossing("a crossing is a tuple (room, pause), room from 1 to 3, pause from 0 to 2")
+
+
+def check_rule(rule):
+    """Raise InvalidRule if rule is not a rule."""
+    if not is_rule(rule):
+        raise InvalidRule("a rule is a tuple of a word and its numbers from 1 to 4")
+
+
+def check_comings(comings):
+    """Raise InvalidComings if comings are not comings."""
+    if not are_comings(comings):
+        raise InvalidComings("comings are a list of at most 40 integers from 0 to 3")

@@ -1,0 +1,1 @@
+"""The tests of lightrules; README.md says how to run them."""
