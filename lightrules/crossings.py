@@ -1,8 +1,11 @@
 """What is a crossing, a rule, or comings; the family of rules; the checks of arguments."""
 
-from lightrules.errors import InvalidComings, InvalidCrossing, InvalidRule
+from lightrules.errors import InvalidComings, InvalidCrossing, InvalidKind, InvalidLights, InvalidRule, InvalidRules
 
-_MOST_COMINGS = 40
+# A row of comings, and so that of their lights, has at most so many ticks.
+MOST_TICKS = 40
+
+_MOST_RULES = 3
 
 _NUMBERS_BEHIND = {"asked": 1, "clock": 2, "due": 1, "empty": 1, "gap": 2, "longer": 1}
 
@@ -49,7 +52,7 @@ def is_rule(candidate):
 
 def are_comings(candidate):
     """Return whether candidate is a list of at most 40 comings."""
-    if not isinstance(candidate, list) or len(candidate) > _MOST_COMINGS:
+    if not isinstance(candidate, list) or len(candidate) > MOST_TICKS:
         return False
     return all([is_number(coming, 0, 3) for coming in candidate])
 
@@ -57,6 +60,11 @@ def are_comings(candidate):
 def family():
     """Return the ascending list of the rules of the family."""
     return list(_FAMILY)
+
+
+def comings_of(kind):
+    """Return the ascending list of the comings of a kind."""
+    return [coming for coming in range(4) if coming | kind == kind]
 
 
 def check_crossing(crossing):
@@ -75,3 +83,38 @@ def check_comings(comings):
     """Raise InvalidComings if comings are not comings."""
     if not are_comings(comings):
         raise InvalidComings("comings are a list of at most 40 integers from 0 to 3")
+
+
+def check_lights(lights):
+    """Raise InvalidLights if lights are not lights."""
+    if not _are_lights(lights):
+        raise InvalidLights("lights are a list of at most 40 values, each 0, 1 or None")
+
+
+def check_kind(kind):
+    """Raise InvalidKind if kind is not a kind of comings."""
+    if not is_number(kind, 0, 3):
+        raise InvalidKind("a kind is an integer from 0 to 3")
+
+
+def check_rules(rules):
+    """Raise InvalidRules if rules are not told as they should be."""
+    if not _are_rules(rules):
+        raise InvalidRules("rules are told as an ascending tuple of 1 to 3 rules")
+
+
+def _are_lights(candidate):
+    """Return whether candidate is a list of at most 40 lights."""
+    if not isinstance(candidate, list) or len(candidate) > MOST_TICKS:
+        return False
+    return all([light is None or is_number(light, 0, 1) for light in candidate])
+
+
+def _are_rules(candidate):
+    """Return whether candidate is an ascending tuple of 1 to 3 rules."""
+    if not isinstance(candidate, tuple) or not 1 <= len(candidate) <= _MOST_RULES:
+        return False
+    # Only rules can be compared: other values may have no order.
+    if not all([is_rule(rule) for rule in candidate]):
+        return False
+    return all([lower < upper for lower, upper in zip(candidate, candidate[1:])])

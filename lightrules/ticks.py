@@ -68,6 +68,32 @@ def _changes(rule, road, age, rest, wait, lines):
     return wait >= rule[1]
 
 
+def limits_of(rules):
+    """Return the greatest numbers with which some rules compare the age, the rest and the wait."""
+    compared = [_compared(rule) for rule in rules]
+    return tuple([max(numbers) for numbers in zip(*compared)])
+
+
+def _compared(rule):
+    """Return the numbers with which a rule compares the age, the rest and the wait, 0 for none."""
+    word, *numbers = rule
+    if word == "gap":
+        return numbers[1], numbers[0], 0
+    if word == "due":
+        return 0, 0, numbers[0]
+    return max(numbers), 0, 0
+
+
+def step(crossing, limits, rule, state, coming):
+    """Play a tick: return the state behind it, trimmed to the limits, and its light."""
+    behind, light = play_tick(crossing, rule, state, coming)[:2]
+    road, unasked, age, rest, wait, lines = behind
+    most_age, most_rest, most_wait = limits
+    # Beyond the limits no rule tells the numbers apart; as they can grow for ever, a search through
+    # all states would not end without the trim.
+    return (road, unasked, min(age, most_age), min(rest, most_rest), min(wait, most_wait), lines), light
+
+
 def _ticks_along(crossing, rule, comings):
     """Return the list of the tuples (light, lines, (passed, lost)) of all ticks."""
     check_crossing(crossing)

@@ -53,3 +53,43 @@ def rules_with(word, number):
     if word in ("clock", "gap"):
         return [(word, number, 2), (word, 2, number)]
     return [(word, number)]
+
+
+KINDS = (0, 1, 2, 3)
+
+NO_KINDS = [kind for kind in NOTHINGS if kind not in KINDS or isinstance(kind, bool)] + [
+    4, 5, -2, -10 ** 5000, [], [0], (0,), [0, 1, 2, 3], "3", "0", ["0"],
+]
+
+LIGHTS = (0, 1, None)
+
+# No lists of at most 40 lights; [None] and [] are such.
+NO_LIGHTS = [lights for lights in NOTHINGS if lights != [None]] + [
+    [2], [-1], [3], [0, 1, 2], [None, 2], [0] * 39 + [2], [10 ** 5000],
+    [True], [False], [0, True], [None, False], [0] * 39 + [False],
+    (0,), (None,), (0, 1, None), (0,) * 40, "0", "01-", ["0"], ["-"], ["None"], [[0]], [0, [None]],
+    [(0,)], [0, ()], [0] * 41, [None] * 41, [1] * 1000, [None, DEEP_LIST[0]],
+]
+
+# No ascending tuples of 1 to 3 rules.
+NO_TOLD_RULES = NOTHINGS + [
+    [], ("asked", 1), ["asked", 1], (("asked", 1), "asked 2"), "asked 1",
+    [("asked", 1)], [("asked", 1), ("asked", 2)], (["asked", 1],), (["asked", 1], ["asked", 2]),
+    (("asked", 1), ["asked", 2]), (["asked", 1], ("asked", 2)), ((("asked", 1),),), [(("asked", 1),)],
+    (("asked", 1), ("asked", 1)), (("asked", 1), ("asked", 2), ("asked", 2)),
+    (("asked", 1), ("asked", 1), ("asked", 2)), (("due", 1), ("due", 1), ("due", 1)),
+    (("asked", 2), ("asked", 1)), (("due", 1), ("asked", 3)), (("clock", 1, 2), ("clock", 1, 1)),
+    (("asked", 1), ("asked", 3), ("asked", 2)), (("longer", 1), ("gap", 1, 3), ("asked", 1)),
+    (("asked", 2), ("asked", 3), ("asked", 1)), (("asked", 1), ("due", 1), ("asked", 1)),
+    (("asked", 1), ("asked", 2), ("asked", 3), ("asked", 4)),
+    tuple(sorted(RULES)), (("asked", 0),), (("asked", 5),), (("asked", True),), (("asked", 1, 1),),
+    (("asked", 1), ("asked", False)), (("asked", 1), ("asked", 5)), (("asked", 0), ("asked", 1)),
+    (("asked", 1), ("clock", 1)), (("asked", 1), None), (None, ("asked", 1)), (("asked", 1), 2),
+    (("asked", 1), (2, 1)), (("asked", 1), ()), (("asked", 1), ("asked", "2")), ((), ()), (None, True),
+    (("asked", 1), ("asked", 2), None), (("asked", 1), ("asked", 2), DEEP_TUPLE[0]),
+]
+
+
+def told(*rules):
+    """Return rules as hidden rules are told: as an ascending tuple."""
+    return tuple(sorted(rules))
