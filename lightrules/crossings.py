@@ -1,11 +1,15 @@
 """What is a crossing, a rule, or comings; the family of rules; the checks of arguments."""
 
-from lightrules.errors import InvalidComings, InvalidCrossing, InvalidKind, InvalidLights, InvalidRule, InvalidRules
+from lightrules.errors import InvalidComing, InvalidComings, InvalidCount, InvalidCrossing, InvalidKind
+from lightrules.errors import InvalidLights, InvalidRoad, InvalidRule, InvalidRules
 
 # A row of comings, and so that of their lights, has at most so many ticks.
 MOST_TICKS = 40
 
 _MOST_RULES = 3
+
+# Rows of more ticks are too many to list all of them.
+_MOST_LISTED = 5
 
 _NUMBERS_BEHIND = {"asked": 1, "clock": 2, "due": 1, "empty": 1, "gap": 2, "longer": 1}
 
@@ -95,6 +99,24 @@ def check_kind(kind):
     """Raise InvalidKind if kind is not a kind of comings."""
     if not is_number(kind, 0, 3):
         raise InvalidKind("a kind is an integer from 0 to 3")
+
+
+def check_coming(coming):
+    """Raise InvalidComing if coming is not a coming."""
+    if not is_number(coming, 0, 3):
+        raise InvalidComing("a coming is an integer from 0 to 3")
+
+
+def check_road(road):
+    """Raise InvalidRoad if road is not a road."""
+    if not is_number(road, 0, 1):
+        raise InvalidRoad("a road is 0 or 1")
+
+
+def check_count(many):
+    """Raise InvalidCount if many is not a number of ticks of which all rows may be listed."""
+    if not is_number(many, 0, _MOST_LISTED):
+        raise InvalidCount("all rows are listed for an integer from 0 to 5 only")
 
 
 def check_rules(rules):

@@ -84,14 +84,19 @@ def _compared(rule):
     return max(numbers), 0, 0
 
 
-def step(crossing, limits, rule, state, coming):
-    """Play a tick: return the state behind it, trimmed to the limits, and its light."""
-    behind, light = play_tick(crossing, rule, state, coming)[:2]
-    road, unasked, age, rest, wait, lines = behind
+def trim(limits, state):
+    """Return a state with its age, rest and wait trimmed to the limits."""
+    road, unasked, age, rest, wait, lines = state
     most_age, most_rest, most_wait = limits
     # Beyond the limits no rule tells the numbers apart; as they can grow for ever, a search through
     # all states would not end without the trim.
-    return (road, unasked, min(age, most_age), min(rest, most_rest), min(wait, most_wait), lines), light
+    return road, unasked, min(age, most_age), min(rest, most_rest), min(wait, most_wait), lines
+
+
+def step(crossing, limits, rule, state, coming):
+    """Play a tick: return the state behind it, trimmed to the limits, and its light."""
+    behind, light = play_tick(crossing, rule, state, coming)[:2]
+    return trim(limits, behind), light
 
 
 def _ticks_along(crossing, rule, comings):

@@ -35,15 +35,25 @@ class Checks:
 
     def check_new_list(self, function, *arguments):
         """Check that an answer is a list of its own that the caller may modify."""
+        self.assertIs(type(function(*arguments)), list)
+        self.check_new_lists(function, *arguments)
+
+    def check_new_lists(self, function, *arguments):
+        """Check that the caller may modify all lists in an answer."""
         before = copy.deepcopy(arguments)
         with self.subTest(function=function.__name__):
-            one = function(*arguments)
+            one, other = function(*arguments), function(*arguments)
             kept = copy.deepcopy(one)
-            self.assertIs(type(one), list)
-            self.assertIsNot(function(*arguments), one)
-            for part in one:
-                if isinstance(part, list):
-                    part.append("more")
-            one.append("more")
+            for part in lists_in(one):
+                part.append("more")
             self.assertEqual(arguments, before)
+            self.assertEqual(other, kept)
             self.assertEqual(function(*arguments), kept)
+
+
+def lists_in(value):
+    """Return all lists in a value, itself included."""
+    if not isinstance(value, (list, tuple)):
+        return []
+    parts = [found for part in value for found in lists_in(part)]
+    return parts + [value] if isinstance(value, list) else parts

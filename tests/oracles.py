@@ -2,8 +2,10 @@
 
 listed_.. asks the player of history.py for each single row. The others search, but each rule is
 played in a state of its own, and age, rest and wait are cut only beyond all numbers of rules.
+What endless rows do is asked of history.py, too.
 """
 
+import collections
 import functools
 import itertools
 
@@ -45,9 +47,13 @@ def listed_rows(crossing, rule, length):
 
 
 def advance(crossing, rule, state, coming):
-    (road, unasked, age, rest, wait, lines), light, _, _ = play_tick(crossing, rule, state, coming)
-    age, rest, wait = min(age, BEYOND), min(rest, BEYOND), min(wait, BEYOND)
-    return (road, unasked, age, rest, wait, lines), light
+    behind, light, _, _ = play_tick(crossing, rule, state, coming)
+    return cut(behind), light
+
+
+def cut(state):
+    road, unasked, age, rest, wait, lines = state
+    return road, unasked, min(age, BEYOND), min(rest, BEYOND), min(wait, BEYOND), lines
 
 
 def start_of(rules):
@@ -82,6 +88,62 @@ def search(crossing, hidden, comings):
                 rows[groups[0]] = rows[place] + [coming]
                 waiting.append(groups[0])
     return None, waiting
+
+
+def losing(crossing, rule, comings):
+    """Return the first of the shortest rows of some comings that end with a loss, or None."""
+    rows = {first_state(): []}
+    waiting = [first_state()]
+    for state in waiting:
+        for coming in comings:
+            behind, _, _, lost = play_tick(crossing, rule, state, coming)
+            if lost > 0:
+                return rows[state] + [coming]
+            if cut(behind) not in rows:
+                rows[cut(behind)] = rows[state] + [coming]
+                waiting.append(cut(behind))
+    return None
+
+
+def loses_no_more(crossing, rule, comings, fraction):
+    """Return whether no loop of some comings loses more cars for each tick than a fraction.
+
+    The lead of a state is the most that a way to it loses beyond the fraction. Just if a loop loses
+    more, leads grow for ever, beyond all that ways without a loop may lose: these are shorter than
+    the number of states, and at most two cars are lost in each tick.
+    """
+    above, below = fraction
+    leads = {first_state(): 0}
+    waiting = collections.deque(leads)
+    while waiting:
+        state = waiting.popleft()
+        for coming in comings:
+            behind, _, _, lost = play_tick(crossing, rule, state, coming)
+            lead = leads[state] + below * lost - above
+            if lead > leads.get(cut(behind), lead - 1):
+                leads[cut(behind)] = lead
+                waiting.append(cut(behind))
+        if leads[state] > 2 * below * len(leads):
+            return False
+    return True
+
+
+def plays_of_loop(crossing, rule, endless, times):
+    """Return a list of the tuples (lights, lines, passed, lost) of the plays of a loop."""
+    row, loop = endless
+    lights, lines, counts = play(crossing, rule, row + loop * times)
+    plays = []
+    for at in range(len(row), len(lights), len(loop)):
+        ticks = slice(at, at + len(loop))
+        passed, lost = [sum(numbers) for numbers in zip(*counts[ticks])]
+        plays.append((lights[ticks], lines[ticks], passed, lost))
+    return plays
+
+
+def is_endless(crossing, rule, endless, times):
+    """Return whether the lights and losses of the plays of a loop are the same so many times."""
+    plays = plays_of_loop(crossing, rule, endless, times)
+    return all((lights, lost) == (plays[0][0], plays[0][3]) for lights, _, _, lost in plays)
 
 
 class Plans:

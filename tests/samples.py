@@ -61,6 +61,18 @@ NO_KINDS = [kind for kind in NOTHINGS if kind not in KINDS or isinstance(kind, b
     4, 5, -2, -10 ** 5000, [], [0], (0,), [0, 1, 2, 3], "3", "0", ["0"],
 ]
 
+ROADS = (0, 1)
+
+NO_ROADS = [road for road in NOTHINGS if road not in ROADS or isinstance(road, bool)] + [
+    2, 4, -2, 10 ** 5000, [], [0], (0,), (1,), [0, 1], "0", "1", ["1"],
+]
+
+COUNTS = (0, 1, 2, 3, 4, 5)
+
+NO_COUNTS = [many for many in NOTHINGS if many not in COUNTS or isinstance(many, bool)] + [
+    6, 7, 40, -2, -10 ** 5000, [], [3], (3,), [0, 0], "3", "0", ["0"],
+]
+
 LIGHTS = (0, 1, None)
 
 # No lists of at most 40 lights; [None] and [] are such.
@@ -88,6 +100,16 @@ NO_TOLD_RULES = NOTHINGS + [
     (("asked", 1), (2, 1)), (("asked", 1), ()), (("asked", 1), ("asked", "2")), ((), ()), (None, True),
     (("asked", 1), ("asked", 2), None), (("asked", 1), ("asked", 2), DEEP_TUPLE[0]),
 ]
+
+NO_STRINGS = [text for text in NOTHINGS if not isinstance(text, str)] + [
+    2, [], ["0"], ("0",), ["0", "1"], ["clock 2 1"], ("clock", 2, 1), ("clock", "2", "1"), ["-"], [None],
+]
+
+# Signs that look like figures, and some that stand beside texts easily.
+OTHER_SIGNS = (
+    " ", "\n", "\t", "\r", "\x0b", "\x00", "\xa0", "+", "_", ".", ",", "/", ":", "a", "O", "l", "I",
+    "\u0661", "\u00b2", "\u00b9", "\uff11", "\u2160", "\u2081", "\u0967", "\u2013", "\u2212", "\u200b",
+)
 
 
 def told(*rules):
